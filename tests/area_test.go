@@ -230,8 +230,8 @@ func TestAreaReadFewBytes(t *testing.T) {
 		{1, 0, impl.AreaOut{Text: ""}},
 		{1, 2, impl.AreaOut{Text: "de"}},
 		{1, 3, impl.AreaOut{Text: "def"}},
-		{1, 5, impl.AreaOut{Text: "defgh"}},
-		{1, 6, impl.AreaOut{Text: "defghi"}},
+		{1, 4, areaFault(impl.ErrSum)},
+		{1, 6, areaFault(impl.ErrSum)},
 		{1, 7, areaFault(impl.ErrSum)},
 		{1, 128, areaFault(impl.ErrSum)},
 		{1, 129, areaFault(impl.ErrSyntax)},
@@ -247,6 +247,92 @@ func TestAreaReadFewBytes(t *testing.T) {
 			checkArea(t, "AreaPut, not "+what, impl.AreaPut(given, "a", allSteps), want)
 		}
 	}
+}
+
+// sharesOf: how many bytes of a text stand in each Sector of a side, by the chapter's words: each full but the last one.
+func sharesOf(sectors int, bytes int) []int {
+	var list []int
+	for range (sectors - 1) / 2 {
+		share := min(bytes, impl.SectorSize)
+		list = append(list, share)
+		bytes -= share
+	}
+	return list
+}
+
+// resized has a Sector of a side cut, or filled up, to so many bytes.
+func resized(d impl.Disk, side int, nth int, bytes int) impl.Disk {
+	at := sideOf(len(d.Sectors), side)[nth]
+	return withSector(d, at, (d.Sectors[at] + strings.Repeat("z", impl.SectorSize))[:bytes])
+}
+
+// filled is an area whose Sectors are all full, so that one that is cut short has bytes enough behind it.
+func filled(sectors int, gen int64, side int, text string) impl.Disk {
+	d := areaOf(sectors, gen, side, text)
+	for side := range 2 {
+		for nth := range sideOf(sectors, side) {
+			d = resized(d, side, nth, impl.SectorSize)
+		}
+	}
+	return d
+}
+
+// atPending: the same to read, but with the Sector's text pending over another one.
+func atPending(d impl.Disk, at int, other string) impl.Disk {
+	return withPending(withSector(d, at, other), int64(at), d.Sectors[at])
+}
+
+func checkShort(t *testing.T, what string, d impl.Disk) {
+	t.Helper()
+	checkArea(t, "AreaRead of "+what, impl.AreaRead(d), areaFault(impl.ErrSum))
+	for _, steps := range []int64{-1, 0, 1, allSteps} {
+		checkArea(t, "AreaPut to "+what, impl.AreaPut(d, "new", steps), areaFault(impl.ErrSum))
+	}
+}
+
+// checkSizes cuts each Sector of the text's side in turn: what counts is whether it has its own share of the text.
+func checkSizes(t *testing.T, sectors int, side int, text string) {
+	t.Helper()
+	whole := filled(sectors, 4, side, text)
+	for nth, share := range sharesOf(sectors, len(text)) {
+		for size := range impl.SectorSize + 1 {
+			d := resized(whole, side, nth, size)
+			what := strconv.Itoa(len(text)) + " bytes, Sector " + strconv.Itoa(nth) + " of the side " + strconv.Itoa(side) + " of " + strconv.Itoa(size)
+			for _, given := range []impl.Disk{d, atPending(d, sideOf(sectors, side)[nth], "y"), atPending(d, 0, "no head"), atPending(d, 0, headOf(3, 0, 0))} {
+				if size < share {
+					checkShort(t, what, given)
+				} else {
+					checkReads(t, what, given, text, 4)
+				}
+			}
+		}
+	}
+}
+
+func TestAreaReadShortSector(t *testing.T) {
+	for _, sectors := range []int{3, 6, 9} {
+		for _, bytes := range []int{0, 1, 7, 63, 64, 65, 127, 128, 129, 191, 192, 193, 255, 256} {
+			for side := range 2 {
+				if bytes <= roomOf(sectors) {
+					checkSizes(t, sectors, side, textOf(bytes, "t"))
+				}
+			}
+		}
+	}
+}
+
+// TestAreaReadElderLeft: what an elder, longer text left on a side is of no shorter one.
+func TestAreaReadElderLeft(t *testing.T) {
+	elder, text := textOf(128, "e"), textOf(7, "t")
+	d := areaOf(6, 2, 0, elder)
+	d = impl.AreaPut(d, "between", allSteps).Disk
+	d = impl.AreaPut(d, text, allSteps).Disk
+	checkReads(t, "ahead of an elder text's Sector", d, text, 4)
+	if d.Sectors[2] != elder[64:] {
+		t.Fatalf("nothing is left of the elder text: %q", d.Sectors)
+	}
+	checkShort(t, "a text that ends in an elder one's Sector", withPending(d, 1, text[:6]))
+	checkShort(t, "a text that ends in an elder one's Sector, flushed", withSector(d, 1, text[:6]))
 }
 
 func TestAreaReadPending(t *testing.T) {
@@ -377,6 +463,7 @@ func TestAreaPutCrowded(t *testing.T) {
 func TestAreaPutFaultOrder(t *testing.T) {
 	huge, more := textOf(impl.MaxBytes+1, "n"), textOf(129, "n")
 	short := withSector(areaOf(5, impl.MaxTime, 0, textOf(70, "o")), 2, "")
+	shortAhead := resized(filled(5, impl.MaxTime, 0, textOf(70, "o")), 0, 0, 63)
 	for _, c := range []struct {
 		what string
 		d    impl.Disk
@@ -392,6 +479,9 @@ func TestAreaPutFaultOrder(t *testing.T) {
 		{"sum, too much", withSector(diskOf(5, 0), 0, "abcd"), more, impl.ErrSum},
 		{"no head, too much", withSector(diskOf(5, 0), 0, headOf(impl.MaxTime, 2, 0)), more, impl.ErrSyntax},
 		{"few bytes, too much, last number", short, more, impl.ErrSum},
+		{"size, a short Sector ahead", shortAhead, huge, impl.ErrSize},
+		{"form, a short Sector ahead", withPending(shortAhead, 5, ""), more, impl.ErrForm},
+		{"a short Sector ahead, too much, last number", shortAhead, more, impl.ErrSum},
 		{"too much, pending full", crowded(areaOf(5, 1, 0, ""), 1, mostPending), more, impl.ErrFull},
 		{"no head, pending full", crowded(diskOf(5, 0), 1, mostPending), "a", impl.ErrShort},
 	} {
